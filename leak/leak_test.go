@@ -175,6 +175,10 @@ func TestGreatestSearches(t *testing.T) {
 	wantNext(t, "all clues against one", s, 0, 11, api.OK)
 	wantFewest(t, "all clues against one", s, 0, 0, api.ErrLong)
 	wantSuspects(t, "one main", fresh(1, 0), 1, api.OK)
+	s = fresh(2, 0, at(0))
+	s.Clues = slices.Repeat([]api.Clue{gas(0, 3)}, api.MaxClues)
+	wantNext(t, "a hole after all clues", s, 0, 1, api.OK)
+	wantFewest(t, "a hole after all clues", s, 0, 1, api.OK)
 }
 
 // TestNextHole checks which hole halves best, and what it leaves by the worse of what is found.
